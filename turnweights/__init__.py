@@ -1,0 +1,1 @@
+"""Turnweights: weighed switches that remember turns."""
