@@ -1,14 +1,13 @@
 """Points 6, 8, 9 and 10: histories, memories, and the switches that are on."""
 
-import copy
 import unittest
 from itertools import product
 
-from by_words import OTHER_VALUES, TOPS, all_switches, histories, memories_by_words, memory_by_words, on_after
-from by_words import short_histories
+from by_words import TOPS, all_switches, histories, memories_by_words, memory_by_words, on_after, short_histories
 from turnweights import memories as module
-from turnweights.errors import BadLevels, BadMemory, WeightError
+from turnweights.errors import BadLevels, BadMemory
 from turnweights.memories import joined, memories, memory_after, memory_of, met, parting_switch, switches_on
+from wrong_values import NO_HISTORIES, NO_MEMORIES, ValuesCase
 
 
 class MemoryTest(unittest.TestCase):
@@ -191,40 +190,12 @@ class JoinedAndMetTest(unittest.TestCase):
             self.assertIs(type(result), tuple)
 
 
-NO_LISTS = OTHER_VALUES + ((), (1,), "", "1", "12")
-# Pairs of a list and the index of the first thing that is no level for the top 3.
-NO_HISTORIES = tuple((value, 0) for value in NO_LISTS) + (
-    ([4], 0), ([-1], 0), ([True], 0), ([False], 0), ([None], 0), (["1"], 0), ([[]], 0), ([()], 0), ([{}], 0),
-    ([[1, 2]], 0), ([(1,)], 0), ([10 ** 999], 0), ([-10 ** 999], 0), ([0, 4], 1), ([0, 1, 2, 3, 4], 4),
-    ([3, 3, -1, 3], 2), ([1, True], 1), ([1, False, 4], 1), ([1, 4, False], 1), ([0, 0, None, None], 2),
-    ([1, 2, [3]], 2), ([1, "2", 3], 1), ([2, {"level": 2}], 1), ([1, [[[[[]]]]]], 1), ([0] * 500 + [4], 500))
-# Values that are no memories for the top 3.
-NO_MEMORIES = OTHER_VALUES + (
-    [], [1], [3, 1], "", "1", "31", (0,), (4,), (-1,), (3, 0), (3, 1, 0), (1, 2), (1, 3), (1, 1), (3, 3), (3, 2, 1),
-    (2, 3, 1), (2, 1, 3), (3, 1, 1), (3, 1, 3), (3, 1, 2, 1), (3, 1, 2, 2), (3, 1, 2, 0), (3, 1, 2, 4), (4, 1),
-    (True,), (False,), (3, True), (3, True, 2), (2, 1, True), (None,), ("1",), (3, "1"), ((),), ((1,),), ([],), ([1],),
-    (3, [1]), ({},), (3, (1, 2)), ((3, 1), 2), (10 ** 999,), (3, 1, (2,)), ((((((1,),),),),),), (0,) * 500)
-
-
-class WrongValuesTest(unittest.TestCase):
+class WrongValuesTest(ValuesCase):
     def check_levels(self, function, values, index):
-        kept = copy.deepcopy(values)
-        with self.subTest(function=function.__name__, values=repr(values)[:80]):
-            with self.assertRaises(BadLevels) as caught:
-                function(3, *values)
-            self.assertEqual(caught.exception.index, index)
-            self.assertIsInstance(caught.exception, WeightError)
-            self.assertIsInstance(caught.exception, ValueError)
-        self.assertEqual(repr(values), repr(kept))
+        self.check_error(BadLevels, {"index": index}, function, 3, *values)
 
     def check_memory(self, function, values):
-        kept = copy.deepcopy(values)
-        with self.subTest(function=function.__name__, values=repr(values)[:80]):
-            with self.assertRaises(BadMemory) as caught:
-                function(3, *values)
-            self.assertIsInstance(caught.exception, WeightError)
-            self.assertIsInstance(caught.exception, ValueError)
-        self.assertEqual(repr(values), repr(kept))
+        self.check_error(BadMemory, {}, function, 3, *values)
 
     def test_histories(self):
         for value, index in NO_HISTORIES:

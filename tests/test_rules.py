@@ -104,6 +104,30 @@ class RulesTest(unittest.TestCase):
                 if isinstance(node, ast.arg):
                     self.assertNotIn(node.arg, OTHER_BUILTINS | BUILTINS)
 
+    def test_names_are_used_once(self):
+        for tree in trees():
+            taken = {node.name for node in tree.body if isinstance(node, ast.ClassDef)}
+            for node in tree.body:
+                if isinstance(node, ast.ImportFrom):
+                    taken.update(alias.name for alias in node.names)
+                    self.assertEqual({alias.asname for alias in node.names}, {None})
+            for function in functions_of(tree):
+                for node in ast.walk(function):
+                    if isinstance(node, ast.arg):
+                        self.assertNotIn(node.arg, taken, function.name)
+                    if isinstance(node, ast.Name) and isinstance(node.ctx, ast.Store):
+                        self.assertNotIn(node.id, taken, function.name)
+
+    def test_calls(self):
+        for tree in trees():
+            for node in ast.walk(tree):
+                if isinstance(node, ast.Call) and isinstance(node.func, ast.Name):
+                    if node.func.id in {"any", "all", "sum", "sorted", "min", "max"}:
+                        for value in node.args:
+                            self.assertNotIsInstance(value, ast.GeneratorExp)
+                if isinstance(node, ast.Call) and isinstance(node.func, ast.Attribute):
+                    self.assertNotIn(node.func.attr, {"sort", "format", "format_map"})
+
     def test_words(self):
         for name, text in named_files():
             for token in tokenize.generate_tokens(io.StringIO(text).readline):

@@ -1,6 +1,7 @@
 """Memories: what histories leave behind, just enough to tell which switches are on."""
 
 from turnweights.errors import BadLevels, BadMemory
+from turnweights.values import is_integer
 
 
 def memories(top):
@@ -61,7 +62,20 @@ def switches(top):
 
 def is_level(top, value):
     """Whether any value is a level for the top."""
-    return isinstance(value, int) and not isinstance(value, bool) and 0 <= value <= top
+    return is_integer(value) and 0 <= value <= top
+
+
+def are_levels(top, value):
+    """Whether any value is a list of levels for the top."""
+    return isinstance(value, list) and all([is_level(top, entry) for entry in value])
+
+
+def is_switch(top, value):
+    """Whether any value is a switch for the top."""
+    if not isinstance(value, tuple) or len(value) != 2:
+        return False
+    up, down = value
+    return is_level(top, up) and is_level(top, down) and down < up
 
 
 def is_memory(top, value):
@@ -87,6 +101,18 @@ def check_memory(top, memory):
         raise BadMemory()
 
 
+def moved(memory, level):
+    """The memory after a right level that follows a right memory."""
+    if level == 0:
+        return ()
+    for place, entry in enumerate(memory):
+        # A level wipes out the highs up to it and the lows down to it, and all behind the first one of these.
+        is_wiped = entry >= level if place % 2 else entry <= level
+        if is_wiped:
+            return memory[:place] + (level,)
+    return memory + (level,)
+
+
 def _memory_with(levels):
     """The memory that has the levels of an ascending list as its entries."""
     left = list(levels)
@@ -99,20 +125,8 @@ def _memory_with(levels):
 def _followed(memory, levels):
     """The memory after right levels that follow a right memory."""
     for level in levels:
-        memory = _moved(memory, level)
+        memory = moved(memory, level)
     return memory
-
-
-def _moved(memory, level):
-    """The memory after one more level."""
-    if level == 0:
-        return ()
-    for place, entry in enumerate(memory):
-        # A level wipes out the highs up to it and the lows down to it, and all behind the first one of these.
-        is_wiped = entry >= level if place % 2 else entry <= level
-        if is_wiped:
-            return memory[:place] + (level,)
-    return memory + (level,)
 
 
 def _heights(top, memory):
