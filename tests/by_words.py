@@ -102,6 +102,24 @@ def long_histories(top):
             for first in range(7) for second in range(5)]
 
 
+def work_by_words(device, history, levels):
+    """Point 20: what is paid at levels that follow a history, less what comes back."""
+    weights = device.weights()
+    work = 0
+    for many in range(len(levels)):
+        before = on_after(device.top, history + levels[:many])
+        after = on_after(device.top, history + levels[:many + 1])
+        work += sum(weights.get(switch, 0) * switch[0] for switch in after - before)
+        work -= sum(weights.get(switch, 0) * switch[1] for switch in before - after)
+    return work
+
+
+def steps_by_words(device):
+    """For each memory, and for each level, the memory after it and the work of it."""
+    return {memory: [(memory_by_words([*memory, level]), work_by_words(device, list(memory), [level]))
+                     for level in range(device.top + 1)] for memory in memories_by_words(device.top)}
+
+
 # For each top, all histories up to the length that keeps the tests quick.
 LENGTHS = {1: 8, 2: 6, 3: 5, 4: 4, 5: 4, 6: 4}
 

@@ -113,6 +113,11 @@ def moved(memory, level):
     return memory + (level,)
 
 
+def moves(top, memory):
+    """The memories after one more level that follows a right memory, one for each level."""
+    return [moved(memory, level) for level in range(top + 1)]
+
+
 def _memory_with(levels):
     """The memory that has the levels of an ascending list as its entries."""
     left = list(levels)

@@ -2,7 +2,8 @@
 
 from turnweights.devices import Device
 from turnweights.errors import BadCurves, OtherTops
-from turnweights.memories import check_levels, check_memory, is_level, memory_of, moved, switches, switches_on
+from turnweights.memories import check_levels, check_memory, is_level, memories, memory_of, moved
+from turnweights.memories import switches, switches_on
 from turnweights.values import is_integer
 
 
@@ -28,7 +29,7 @@ def outputs_along(device, memory, levels):
 
 def curves(device):
     """The dict from all pairs (a, b) of levels with 1 <= b <= a to the outputs after [a, b]."""
-    return {(high, low): output_after(device, [high, low]) for high, low in _pairs(device.top)}
+    return {(high, low): output_after(device, [high, low]) for high, low in curve_pairs(device.top)}
 
 
 def device_of(top, base, some_curves):
@@ -49,7 +50,7 @@ def parting_history(first, second):
     if first.top != second.top:
         raise OtherTops()
     one_level = [[level] for level in range(1, first.top + 1)]
-    two_levels = [[high, low] for high, low in _pairs(first.top)]
+    two_levels = [[high, low] for high, low in curve_pairs(first.top)]
     # No other history of at most two levels has a memory of its own.
     for history in [[], *one_level, *two_levels]:
         if output_after(first, history) != output_after(second, history):
@@ -63,14 +64,19 @@ def output_with(device, memory):
     return device.base + sum([weights.get(switch, 0) for switch in switches_on(device.top, memory)])
 
 
-def _pairs(top):
+def outputs_with_all(device):
+    """A dict from all memories to the outputs with them, in the order of memories."""
+    return {memory: output_with(device, memory) for memory in memories(device.top)}
+
+
+def curve_pairs(top):
     """The pairs (a, b) of levels with 1 <= b <= a."""
     return [(high, low) for high in range(1, top + 1) for low in range(1, high + 1)]
 
 
 def _are_curves(top, value):
     """Whether any value is a dict from just these pairs to integers."""
-    if not isinstance(value, dict) or len(value) != len(_pairs(top)):
+    if not isinstance(value, dict) or len(value) != len(curve_pairs(top)):
         return False
     return all([_is_pair(top, key) and is_integer(value[key]) for key in value])
 
