@@ -21,6 +21,7 @@ LIBRARY = {
     "collections": {"defaultdict", "deque"},
 }
 METHODS = {"__init__", "__eq__", "__repr__", "__str__", "__len__", "__enter__", "__exit__", "__call__", "__iter__"}
+MODIFYING = {"append", "clear", "extend", "insert", "pop", "remove", "reverse", "setdefault", "update"}
 UNUSED = set("""register mro elements open input law version_info with_traceback add_note typing
     typing_extensions enum Enum IntEnum StrEnum Flag IntFlag Generic Protocol ABC ABCMeta namedtuple NamedTuple
     TypedDict TYPE_CHECKING abstractmethod eval exec compile globals locals vars dir id help exit quit frozenset
@@ -38,6 +39,18 @@ def functions_of(tree):
 
 def trees():
     return [ast.parse(text, name) for name, text in named_files()]
+
+
+def modified_in(body):
+    """The texts of what statements modify: by a method, an item or a slice."""
+    found = set()
+    for statement in body:
+        for node in ast.walk(statement):
+            if isinstance(node, ast.Call) and isinstance(node.func, ast.Attribute) and node.func.attr in MODIFYING:
+                found.add(ast.unparse(node.func.value))
+            if isinstance(node, ast.Subscript) and not isinstance(node.ctx, ast.Load):
+                found.add(ast.unparse(node.value))
+    return found
 
 
 class RulesTest(unittest.TestCase):
@@ -127,6 +140,21 @@ class RulesTest(unittest.TestCase):
                             self.assertNotIsInstance(value, ast.GeneratorExp)
                 if isinstance(node, ast.Call) and isinstance(node.func, ast.Attribute):
                     self.assertNotIn(node.func.attr, {"sort", "format", "format_map"})
+
+    def test_stars(self):
+        for tree in trees():
+            for node in ast.walk(tree):
+                for value in node.args if isinstance(node, ast.Call) else []:
+                    if isinstance(value, ast.Starred):
+                        self.assertIsInstance(value.value, (ast.Name, ast.Attribute, ast.List, ast.Tuple, ast.Dict))
+
+    def test_what_a_loop_goes_over_stays(self):
+        for tree in trees():
+            for loop in ast.walk(tree):
+                if isinstance(loop, ast.For):
+                    gone_over = {ast.unparse(node) for node in ast.walk(loop.iter)
+                                 if isinstance(node, (ast.Name, ast.Attribute))}
+                    self.assertEqual(gone_over & modified_in(loop.body), set())
 
     def test_words(self):
         for name, text in named_files():

@@ -12,7 +12,7 @@ def are_bars(top, records, numbers):
     check_records(top, records)
     if not are_integers(numbers, len(records)):
         return False
-    return not any(_sums(top, records, numbers)) and sum_with_outputs(records, numbers) != 0
+    return not any(_sums_of(top, records, numbers)) and sum_with_outputs(records, numbers) != 0
 
 
 def are_divided(top, records, pair):
@@ -23,18 +23,16 @@ def are_divided(top, records, pair):
     number, numbers = pair
     if not is_integer(number) or number < 2 or not are_integers(numbers, len(records)):
         return False
-    are_multiples = not any([total % number for total in _sums(top, records, numbers)])
+    are_multiples = not any([total % number for total in _sums_of(top, records, numbers)])
     return are_multiples and sum_with_outputs(records, numbers) % number != 0
 
 
 def is_fit(top, records, fit):
     """Whether any value is a fit of records; raises BadRecords(index)."""
     check_records(top, records)
-    if not isinstance(fit, tuple) or len(fit) != 3:
+    if not is_weighed(top, fit):
         return False
     bottom, base, weights = fit
-    if not is_integer(bottom) or bottom < 1 or not is_integer(base) or not _are_weights(top, weights):
-        return False
     device = Device(top, base, weights)
     return all([output_after(device, history) == bottom * output for history, output in records])
 
@@ -48,6 +46,21 @@ def check_records(top, records):
             raise BadRecords(index)
 
 
+def is_weighed(top, value):
+    """Whether any value is a tuple of a bottom from 1 on, a base and weights."""
+    if not isinstance(value, tuple) or len(value) != 3:
+        return False
+    bottom, base, weights = value
+    return is_integer(bottom) and bottom >= 1 and is_integer(base) and are_weights(top, weights)
+
+
+def are_weights(top, value):
+    """Whether any value is a dict from switches to integers that are not 0."""
+    if not isinstance(value, dict):
+        return False
+    return all([is_switch(top, key) and is_integer(value[key]) and value[key] != 0 for key in value])
+
+
 def shares_with(top, memory):
     """How often the base and each weight, the switches in ascending order, are in the output with a memory."""
     on = switches_on(top, memory)
@@ -59,6 +72,27 @@ def sum_with_outputs(records, numbers):
     return sum([number * output for number, (_, output) in zip(numbers, records)])
 
 
+def totals_with(top, histories, numbers):
+    """A dict from the memories of right histories to the sums of their numbers, one for each history."""
+    totals = {}
+    for history, number in zip(histories, numbers):
+        memory = memory_of(top, history)
+        totals[memory] = totals.get(memory, 0) + number
+    return totals
+
+
+def sums_over(top, histories, numbers):
+    """The sum of the numbers, one for each right history, and for each switch that of those after which it is on.
+
+    The switches are in ascending order.
+    """
+    totals = totals_with(top, histories, numbers)
+    sums = [0] + [0 for _ in switches(top)]
+    for memory in totals:
+        sums = [so_far + totals[memory] * share for so_far, share in zip(sums, shares_with(top, memory))]
+    return sums
+
+
 def _is_record(top, value):
     """Whether any value is a pair of a history and an integer."""
     if not isinstance(value, tuple) or len(value) != 2:
@@ -67,20 +101,6 @@ def _is_record(top, value):
     return are_levels(top, history) and is_integer(output)
 
 
-def _are_weights(top, value):
-    """Whether any value is a dict from switches to integers that are not 0."""
-    if not isinstance(value, dict):
-        return False
-    return all([is_switch(top, key) and is_integer(value[key]) and value[key] != 0 for key in value])
-
-
-def _sums(top, records, numbers):
-    """The sum of the numbers, and for each switch the sum of those after whose histories it is on."""
-    totals = {}
-    for (history, _), number in zip(records, numbers):
-        memory = memory_of(top, history)
-        totals[memory] = totals.get(memory, 0) + number
-    sums = [0] + [0 for _ in switches(top)]
-    for memory in totals:
-        sums = [so_far + totals[memory] * share for so_far, share in zip(sums, shares_with(top, memory))]
-    return sums
+def _sums_of(top, records, numbers):
+    """The sum of the numbers of records, and for each switch the sum of those after whose histories it is on."""
+    return sums_over(top, [history for history, _ in records], numbers)
